@@ -1,0 +1,1 @@
+"""What layers cost: the calls are answered by layercosts.layers.answers."""
