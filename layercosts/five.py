@@ -4,6 +4,9 @@ from layercosts.words import is_less, word_mean
 
 FIVE = ((1,), (1, 0), (1, 1, 0, 0), (1, 1, 1, 0, 0, 0), (1, 1, 0))
 
+# Costs by which each of the five is the only one that costs least.
+NEEDED_COSTS = ((-1, 0, 0), (2, -1, 0), (0, 1, 0), (-1, 1, 2), (1, 1, -2))
+
 
 def least_of_five(costs):
     """Give the number of the first of the five that costs least of them in the mean."""

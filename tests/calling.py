@@ -11,6 +11,12 @@ MOST = 2 ** 32 - 1
 START = [0]
 LEAST = [4]
 TIES = [6]
+TURNED_OVER = [15]
+STATE = [16]
+
+
+def row(word):
+    return [len(word)] + list(word)
 
 
 def costs(a, b, d):
@@ -18,11 +24,11 @@ def costs(a, b, d):
 
 
 def cost(word):
-    return [2, len(word)] + list(word)
+    return [2] + row(word)
 
 
 def mean(word):
-    return [3, len(word)] + list(word)
+    return [3] + row(word)
 
 
 def word(k):
@@ -34,7 +40,31 @@ def best(n):
 
 
 def good(word):
-    return [8, len(word)] + list(word)
+    return [8] + row(word)
+
+
+def cheaper(word, other):
+    return [9] + row(word) + row(other)
+
+
+def turn(step, word):
+    return [10, step] + row(word)
+
+
+def fall(word):
+    return [11] + row(word)
+
+
+def rest(word):
+    return [12] + row(word)
+
+
+def joined(word, other):
+    return [13] + row(word) + row(other)
+
+
+def needs(k):
+    return [14, k]
 
 
 def ask(*calls):
@@ -78,6 +108,24 @@ def true_cost(three, word):
 
 def true_mean(three, word):
     return Fraction(true_cost(three, word), len(word))
+
+
+def turned(word, step):
+    return [1 - value if place == step else value for place, value in enumerate(word)]
+
+
+def true_fall(three, word):
+    """The step that fall tells and what the word costs then, or None."""
+    costs_then = [true_cost(three, turned(word, step)) for step in range(len(word))]
+    least = min(costs_then)
+    if least >= true_cost(three, word):
+        return None
+    return costs_then.index(least), least
+
+
+def true_rest(three, word):
+    found = true_fall(three, word)
+    return word if found is None else true_rest(three, turned(word, found[0]))
 
 
 def pair(fraction):

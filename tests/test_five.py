@@ -1,7 +1,10 @@
 import unittest
 from itertools import product
 
-from calling import FIVE, LEAST, MOST, SOME_COSTS, TIED, TIES, all_words, ask_with, best, mean, pair, true_mean, word
+from calling import (
+    FIVE, LEAST, MOST, SOME_COSTS, START, STATE, TIED, TIES, all_words, ask, ask_with, best, costs, good, mean, needs,
+    pair, true_mean, word,
+)
 
 
 def least_of(three, words):
@@ -94,13 +97,31 @@ class BestTest(unittest.TestCase):
             self.assertEqual(ask_with((1, 2, 3), best(n)), [[-22]], n)
 
 
-class HoldsTest(unittest.TestCase):
-    def test_no_word_costs_less_than_one_of_the_five(self):
-        for three in [(7, -3, 5), (-1, 1, 2), (2, 1, 0)]:
-            least = least_of(three, FIVE)
-            for steps in range(1, 13):
-                self.assertGreaterEqual(least_of(three, all_words(steps)), least)
+class NeedsTest(unittest.TestCase):
+    def test_what_the_document_tells(self):
+        told = [[0, -1, 0, 0], [0, 2, -1, 0], [0, 0, 1, 0], [0, -1, 1, 2], [0, 1, 1, -2]]
+        self.assertEqual(ask(START, *[needs(k) for k in range(5)])[1:], told)
+        for three in SOME_COSTS:
+            self.assertEqual(ask_with(three, *[needs(k) for k in range(5)]), told)
 
+    def test_by_these_costs_that_one_is_the_only_one(self):
+        for k in range(5):
+            three = ask(START, needs(k))[1][1:]
+            told = ask(START, costs(*three), TIES, LEAST, *[good(steps) for steps in FIVE])[2:]
+            self.assertEqual(told[0], [1, k])
+            self.assertEqual(told[1][0], k)
+            self.assertEqual(told[2:], [[1] if other == k else [0] for other in range(5)])
+
+    def test_they_are_told_and_not_set(self):
+        for k in range(6):
+            self.assertEqual(ask_with((7, -3, 5), needs(k), STATE)[1], [0, 7, -3, 5])
+
+    def test_above_4_there_is_none(self):
+        for k in [5, 6, 100, 2 ** 31, MOST]:
+            self.assertEqual(ask_with((1, 2, 3), needs(k)), [[-2]], k)
+
+
+class WordAndMeanTest(unittest.TestCase):
     def test_what_word_and_mean_tell_is_the_same(self):
         for three in SOME_COSTS:
             for k, steps in enumerate(FIVE):

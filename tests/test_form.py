@@ -98,6 +98,25 @@ class FormTest(unittest.TestCase):
             if isinstance(node, ast.Call) and isinstance(node.func, ast.Attribute):
                 self.assertIn(node.func.attr, own | set(METHODS), (name, node.lineno))
 
+    def test_no_name_is_both_a_method_and_a_value(self):
+        methods = set()
+        values = set()
+        for name, node in nodes():
+            if isinstance(node, ast.ClassDef):
+                methods |= {part.name for part in node.body if isinstance(part, ast.FunctionDef)}
+            if isinstance(node, ast.Attribute) and isinstance(node.ctx, ast.Store):
+                values.add(node.attr)
+        self.assertEqual(methods & values, set())
+
+    def test_no_local_is_called_like_a_class_or_an_import(self):
+        for name, text in sources():
+            tree = ast.parse(text)
+            taken = {node.name for node in ast.walk(tree) if isinstance(node, ast.ClassDef)}
+            taken |= {drawn.name for node in tree.body if isinstance(node, ast.ImportFrom) for drawn in node.names}
+            for node in ast.walk(tree):
+                if not isinstance(node, (ast.FunctionDef, ast.ClassDef)):
+                    self.assertEqual(set(bound_names(node)) & taken, set(), name)
+
 
 if __name__ == "__main__":
     unittest.main()

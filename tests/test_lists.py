@@ -1,11 +1,17 @@
 import unittest
 
-from calling import LEAST, MOST, START, TIES, ask, best, cost, costs, good, mean, word
+from calling import (
+    LEAST, MOST, START, STATE, TIES, TURNED_OVER, ask, best, cheaper, cost, costs, fall, good, joined, mean, needs,
+    rest, turn, word,
+)
 from layercosts.layers import answers
 
 ALL_CALLS = [
     START, costs(1, 10, 100), cost([1, 1, 0]), mean([1, 1, 0]), LEAST, word(4), TIES, best(3), good([1, 1, 0]),
-    costs(101, 0, 0), cost([]), mean([2]), word(5), best(0), good([0] * 13),
+    cheaper([1, 0], [1, 1, 0]), turn(2, [1, 1, 0]), fall([1, 1, 1]), rest([1, 1, 1]), joined([1], [0]), needs(3),
+    TURNED_OVER, STATE,
+    costs(101, 0, 0), cost([]), mean([2]), word(5), best(0), good([0] * 13), cheaper([1], []), turn(3, [1, 1, 0]),
+    fall([1]), fall([2]), rest([0] * 13), joined([1] * 12, [1]), needs(5),
 ]
 
 
@@ -28,20 +34,29 @@ class ListsTest(unittest.TestCase):
             2, 1, 3,
             6, 3, 0, 0, 1, 289, 3,
             1, 0,
-            1, -22, 1, -22, 1, -22, 1, -2, 1, -22, 1, -22,
+            1, 1,
+            2, 0, 44,
+            2, 0, 289,
+            5, 3, 0, 1, 1, 289,
+            3, 0, -182, 222,
+            4, 0, -1, 1, 2,
+            1, 0,
+            4, 0, -1, 10, -100,
+            1, -22, 1, -22, 1, -22, 1, -2, 1, -22, 1, -22, 1, -22, 1, -2,
+            1, -33, 1, -22, 1, -22, 1, -22, 1, -2,
         ])
 
     def test_numbers_of_a_row_are_not_taken_for_calls(self):
         told = ask(START, costs(1, 2, 3), cost([1, 7, 7, 1]), cost([MOST] * 60), cost([]), good([0]), cost([1]))
         self.assertEqual(told[2:], [[-22], [-22], [-22], [0], [0, 6]])
+        told = ask(START, joined([15] * 60, [16] * 13), cheaper([], [15]), turn(15, [0, 0]), joined([], []), STATE)
+        self.assertEqual(told[1:], [[-22], [-22], [-2], [-22], [0, 0, 0, 0]])
 
     def test_two_hundred_calls(self):
-        calls = (ALL_CALLS * 14)[:200]
-        told = ask(*calls)
-        self.assertEqual(len(told), 200)
-        once = ask(*ALL_CALLS)
-        again = [[0, 0, 0, 0] if call == costs(1, 10, 100) else answer for call, answer in zip(ALL_CALLS, once)]
-        self.assertEqual(told, (again * 14)[:200])
+        # Each round begins with a start, so each is answered like the first.
+        calls = (ALL_CALLS * 7)[:200]
+        self.assertEqual(len(calls), 200)
+        self.assertEqual(ask(*calls), (ask(*ALL_CALLS) * 7)[:200])
 
     def test_two_hundred_calls_with_the_longest_rows(self):
         calls = [START] + [cost([1] * 60), mean([0] * 60), good([MOST] * 60)] * 66 + [LEAST]
