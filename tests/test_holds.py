@@ -13,7 +13,7 @@ EVEN_WORDS = all_words(2) + all_words(4) + all_words(6) + all_words(8)[::5] + al
 
 class HoldsTest(unittest.TestCase):
     def test_a_no_word_costs_less_in_the_mean_than_the_least_of_the_five(self):
-        words = [word for steps in range(1, 12) for word in all_words(steps)] + all_words(12)[::5]
+        words = [word for steps in range(1, 13) for word in all_words(steps)]
         for three in [(7, -3, 5), (-1, 1, 2), (100, 100, -100)]:
             least = ask_with(three, LEAST)[0]
             told = ask_many(three, [mean(word) for word in words])
